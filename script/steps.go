@@ -1,9 +1,8 @@
 package script
 
 import (
-	"slices"
-
 	"promptbook/api"
+	"promptbook/fresh"
 )
 
 // eachStep calls visit for each step of a list, and for those within it, in the order of their numbers.
@@ -46,19 +45,10 @@ func copySteps(l []api.Step, keep func() bool) []api.Step {
 		if !keep() {
 			continue
 		}
-		s.Expr = copyExpr(s.Expr)
-		s.Args = slices.Clone(s.Args)
-		s.Then = copySteps(s.Then, keep)
-		s.Else = copySteps(s.Else, keep)
-		out = append(out, s)
+		c := fresh.Head(s)
+		c.Then = copySteps(s.Then, keep)
+		c.Else = copySteps(s.Else, keep)
+		out = append(out, c)
 	}
 	return out
-}
-
-func copyExpr(e api.Expr) api.Expr {
-	e.Args = slices.Clone(e.Args)
-	for i, a := range e.Args {
-		e.Args[i] = copyExpr(a)
-	}
-	return e
 }

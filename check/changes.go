@@ -1,0 +1,105 @@
+package check
+
+import (
+	"slices"
+
+	"promptbook/api"
+	"promptbook/fresh"
+	"promptbook/script"
+)
+
+// head puts a step in its own place.
+func head(n *node) []api.Step {
+	return []api.Step{fresh.Head(n.step)}
+}
+
+// rebuilt is a new list of steps: put gives what stands in the place of a step, of a StepIf without its branches.
+func rebuilt(l []*node, put func(n *node) []api.Step) []api.Step {
+	var out []api.Step
+	for _, n := range l {
+		place := put(n)
+		if n.step.Kind == api.StepIf && len(place) > 0 {
+			place[0].Then = rebuilt(n.then, put)
+			place[0].Else = rebuilt(n.otherwise, put)
+		}
+		out = append(out, place...)
+	}
+	return out
+}
+
+// rebuiltPlay has those procedures for which keep holds.
+func (t *tree) rebuiltPlay(keep func(proc int) bool, put func(n *node) []api.Step) api.Play {
+	p := api.Play{Main: rebuilt(t.main, put)}
+	for i, q := range t.procs {
+		if keep(i) {
+			p.Procs = append(p.Procs, api.Proc{Key: q.Key, Params: slices.Clone(q.Params), Body: rebuilt(t.bodies[i], put)})
+		}
+	}
+	return p
+}
+
+func (t *tree) trimmed() api.Play {
+	steps, procs := newWays(t).reached()
+	return t.rebuiltPlay(func(proc int) bool { return procs[proc] }, func(n *node) []api.Step {
+		if !steps[n.number] {
+			return nil
+		}
+		return head(n)
+	})
+}
+
+// rename replaces roles of steps, in their own memory, all at once.
+func rename(l []api.Step, names map[string]string) {
+	swap := func(role *string) {
+		if name, ok := names[*role]; ok {
+			*role = name
+		}
+	}
+	for i := range l {
+		swap(&l[i].Role)
+		swap(&l[i].To)
+		for k := range l[i].Args {
+			swap(&l[i].Args[k])
+		}
+		rename(l[i].Then, names)
+		rename(l[i].Else, names)
+	}
+}
+
+func isName(s string) bool {
+	return script.CheckExpr(api.Expr{Op: api.OpVar, Name: s}) == api.OK
+}
+
+// checkPairs checks what takes the place of which roles.
+func checkPairs(pairs []api.Pair, roles []string) api.Errno {
+	if len(pairs) > api.MaxRoles {
+		return api.ErrLarge
+	}
+	for i, a := range pairs {
+		if !slices.Contains(roles, a.Name) || !isName(a.Value) {
+			return api.ErrName
+		}
+		if slices.ContainsFunc(pairs[:i], func(b api.Pair) bool { return b.Name == a.Name || b.Value == a.Value }) {
+			return api.ErrTwice
+		}
+	}
+	for _, a := range pairs {
+		if slices.Contains(roles, a.Value) && !slices.ContainsFunc(pairs, func(b api.Pair) bool { return b.Name == a.Value }) {
+			return api.ErrConflict
+		}
+	}
+	return api.OK
+}
+
+func (t *tree) renamed(pairs []api.Pair, roles []string) (api.Play, api.Errno) {
+	if err := checkPairs(pairs, roles); err != api.OK {
+		return api.Play{}, err
+	}
+	names := map[string]string{}
+	for _, a := range pairs {
+		names[a.Name] = a.Value
+	}
+	p := t.rebuiltPlay(func(int) bool { return true }, head)
+	rename(p.Main, names)
+	return p, api.OK
+}

@@ -1,0 +1,41 @@
+package check
+
+import "slices"
+
+// partakers are, for each procedure, the indices of those of its Params that partake.
+func (t *tree) partakers() [][]int {
+	var out [][]int
+	for _, partakes := range t.partaking() {
+		var l []int
+		for i, is := range partakes {
+			if is {
+				l = append(l, i)
+			}
+		}
+		out = append(out, l)
+	}
+	return out
+}
+
+// partaking tells for each procedure which of its Params partake.
+func (t *tree) partaking() [][]bool {
+	out := make([][]bool, len(t.procs))
+	for i, q := range t.procs {
+		out[i] = make([]bool, len(q.Params))
+	}
+	t.settle(func(proc int) bool {
+		changed := false
+		for _, n := range t.within[proc] {
+			for i, role := range rolesOf(n.step) {
+				if n.callee != noProc && !out[n.callee][i] {
+					continue
+				}
+				k := slices.Index(t.procs[proc].Params, role)
+				changed = changed || !out[proc][k]
+				out[proc][k] = true
+			}
+		}
+		return changed
+	})
+	return out
+}
