@@ -5,7 +5,7 @@ import (
 
 	"promptbook/api"
 	"promptbook/fresh"
-	"promptbook/script"
+	"promptbook/raw"
 )
 
 // head puts a step in its own place.
@@ -66,17 +66,13 @@ func rename(l []api.Step, names map[string]string) {
 	}
 }
 
-func isName(s string) bool {
-	return script.CheckExpr(api.Expr{Op: api.OpVar, Name: s}) == api.OK
-}
-
 // checkPairs checks what takes the place of which roles.
 func checkPairs(pairs []api.Pair, roles []string) api.Errno {
 	if len(pairs) > api.MaxRoles {
 		return api.ErrLarge
 	}
 	for i, a := range pairs {
-		if !slices.Contains(roles, a.Name) || !isName(a.Value) {
+		if !slices.Contains(roles, a.Name) || !raw.IsName(a.Value) {
 			return api.ErrName
 		}
 		if slices.ContainsFunc(pairs[:i], func(b api.Pair) bool { return b.Name == a.Name || b.Value == a.Value }) {

@@ -4,6 +4,7 @@ import (
 	"slices"
 
 	"promptbook/api"
+	"promptbook/raw"
 )
 
 func checkExpr(e api.Expr, depth int) api.Errno {
@@ -12,13 +13,13 @@ func checkExpr(e api.Expr, depth int) api.Errno {
 		return api.ErrLarge
 	case e.Op < api.OpNumber || e.Op > api.OpWhen:
 		return api.ErrKind
-	case len(e.Args) != operands(e.Op),
+	case len(e.Args) != raw.Operands(e.Op),
 		e.Op != api.OpNumber && e.N != 0,
 		e.Op != api.OpVar && e.Name != "":
 		return api.ErrForm
 	case e.N < 0 || e.N > api.MaxValue:
 		return api.ErrArg
-	case e.Op == api.OpVar && !isName(e.Name):
+	case e.Op == api.OpVar && !raw.IsName(e.Name):
 		return api.ErrName
 	}
 	for _, a := range e.Args {
@@ -29,22 +30,9 @@ func checkExpr(e api.Expr, depth int) api.Errno {
 	return api.OK
 }
 
-// operands is how many Args an Op needs.
-func operands(op int) int {
-	switch op {
-	case api.OpNumber, api.OpVar:
-		return 0
-	case api.OpNot:
-		return 1
-	case api.OpWhen:
-		return 3
-	}
-	return 2
-}
-
 func checkProc(q api.Proc, earlier []api.Proc) api.Errno {
 	switch {
-	case !isName(q.Key):
+	case !raw.IsName(q.Key):
 		return api.ErrName
 	case slices.ContainsFunc(earlier, func(r api.Proc) bool { return r.Key == q.Key }):
 		return api.ErrTwice
@@ -54,7 +42,7 @@ func checkProc(q api.Proc, earlier []api.Proc) api.Errno {
 		return api.ErrLarge
 	}
 	for i, role := range q.Params {
-		if !isName(role) {
+		if !raw.IsName(role) {
 			return api.ErrName
 		}
 		if slices.Contains(q.Params[:i], role) {
@@ -111,7 +99,7 @@ func checkArgs(args []string) api.Errno {
 		return api.ErrLarge
 	}
 	for _, role := range args {
-		if !isName(role) {
+		if !raw.IsName(role) {
 			return api.ErrName
 		}
 	}
@@ -154,9 +142,9 @@ func isZero(e api.Expr) bool {
 
 // areNamed says whether all names that are used are names.
 func areNamed(s api.Step, f fields) bool {
-	return (!f.role || isName(s.Role)) &&
-		(!f.to || isName(s.To)) &&
-		(!f.variable || isName(s.Var)) &&
-		(!f.label || isName(s.Label)) &&
-		(!f.call || isName(s.Proc))
+	return (!f.role || raw.IsName(s.Role)) &&
+		(!f.to || raw.IsName(s.To)) &&
+		(!f.variable || raw.IsName(s.Var)) &&
+		(!f.label || raw.IsName(s.Label)) &&
+		(!f.call || raw.IsName(s.Proc))
 }

@@ -5,6 +5,7 @@ import (
 	"strconv"
 
 	"promptbook/api"
+	"promptbook/raw"
 )
 
 // levelOpen is that of what keeps operators before it from taking operands behind it: an open parenthesis, and a question mark without its colon.
@@ -149,7 +150,7 @@ func (x *exprReader) reduce(least int) {
 	for x.last().level >= least {
 		op := x.last().op
 		x.waiting = x.waiting[:len(x.waiting)-1]
-		first := len(x.values) - operands(op)
+		first := len(x.values) - raw.Operands(op)
 		e := api.Expr{Op: op, Args: slices.Clone(x.values[first:])}
 		x.values = append(x.values[:first], e)
 	}

@@ -5,6 +5,7 @@ import (
 	"strings"
 
 	"promptbook/api"
+	"promptbook/raw"
 )
 
 // Kinds of words.
@@ -47,7 +48,7 @@ func firstWord(text string) word {
 func runLength(text string) int {
 	for i := range len(text) {
 		c := text[i]
-		if !isSmall(c) && !isDigit(c) && c != '_' && (c < 'A' || c > 'Z') {
+		if !raw.IsSmall(c) && !raw.IsDigit(c) && c != '_' && (c < 'A' || c > 'Z') {
 			return i
 		}
 	}
@@ -55,10 +56,10 @@ func runLength(text string) int {
 }
 
 func runKind(run string) int {
-	if isReserved(run) {
+	if raw.IsReserved(run) {
 		return wordFixed
 	}
-	if isName(run) {
+	if raw.IsName(run) {
 		return wordName
 	}
 	// Only the usual form of a number is the text of its value.

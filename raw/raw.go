@@ -1,0 +1,49 @@
+// Package raw has what the raw forms of many values need: what a name is, and how many Args an operator has.
+package raw
+
+import "promptbook/api"
+
+// IsName says whether s is a name of a role, a variable, a label or a procedure.
+func IsName(s string) bool {
+	if len(s) < 1 || len(s) > api.MaxName || !IsSmall(s[0]) || IsReserved(s) {
+		return false
+	}
+	for i := range len(s) {
+		if !IsSmall(s[i]) && !IsDigit(s[i]) && s[i] != '_' {
+			return false
+		}
+	}
+	return true
+}
+
+// IsReserved says whether s is a word that the grammar keeps for itself.
+func IsReserved(s string) bool {
+	switch s {
+	case "proc", "main", "if", "else":
+		return true
+	}
+	return false
+}
+
+// IsSmall says whether c is a small letter.
+func IsSmall(c byte) bool {
+	return 'a' <= c && c <= 'z'
+}
+
+// IsDigit says whether c is a decimal digit.
+func IsDigit(c byte) bool {
+	return '0' <= c && c <= '9'
+}
+
+// Operands is how many Args an operator of expressions needs.
+func Operands(op int) int {
+	switch op {
+	case api.OpNumber, api.OpVar:
+		return 0
+	case api.OpNot:
+		return 1
+	case api.OpWhen:
+		return 3
+	}
+	return 2
+}

@@ -1,0 +1,55 @@
+package raw_test
+
+import (
+	"strings"
+	"testing"
+
+	"promptbook/api"
+	"promptbook/raw"
+)
+
+func TestNames(t *testing.T) { // P1.1
+	long := strings.Repeat("a", api.MaxName)
+	for _, s := range []string{"a", "z", "a0", "x_", "if1", "mains", "proc_", long} {
+		if !raw.IsName(s) {
+			t.Errorf("%q is a name", s)
+		}
+	}
+	for _, s := range []string{"", "_", "0", "9a", "_a", "A", "aB", "a-b", "a b", "a ", "ä", "a\x00", "proc", "main", "if", "else", long + "a"} {
+		if raw.IsName(s) {
+			t.Errorf("%q is no name", s)
+		}
+	}
+}
+
+func TestLettersAndDigits(t *testing.T) { // P1.1
+	for c := range 256 {
+		if got, want := raw.IsSmall(byte(c)), strings.IndexByte("abcdefghijklmnopqrstuvwxyz", byte(c)) >= 0; got != want {
+			t.Errorf("IsSmall(%d): got %v", c, got)
+		}
+		if got, want := raw.IsDigit(byte(c)), strings.IndexByte("0123456789", byte(c)) >= 0; got != want {
+			t.Errorf("IsDigit(%d): got %v", c, got)
+		}
+	}
+}
+
+func TestReserved(t *testing.T) { // P1.1
+	for _, s := range []string{"proc", "main", "if", "else"} {
+		if !raw.IsReserved(s) {
+			t.Errorf("%q is reserved", s)
+		}
+	}
+	for _, s := range []string{"", "a", "If", "elses", "pro"} {
+		if raw.IsReserved(s) {
+			t.Errorf("%q is not reserved", s)
+		}
+	}
+}
+
+func TestOperands(t *testing.T) { // P1.1
+	for op, want := range map[int]int{api.OpNumber: 0, api.OpVar: 0, api.OpAdd: 2, api.OpSub: 2, api.OpMul: 2, api.OpLess: 2, api.OpSame: 2, api.OpNot: 1, api.OpWhen: 3} {
+		if got := raw.Operands(op); got != want {
+			t.Errorf("Operands(%d): got %d, want %d", op, got, want)
+		}
+	}
+}
