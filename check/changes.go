@@ -5,22 +5,23 @@ import (
 
 	"promptbook/api"
 	"promptbook/fresh"
+	"promptbook/numbered"
 	"promptbook/raw"
 )
 
 // head puts a step in its own place.
-func head(n *node) []api.Step {
-	return []api.Step{fresh.Head(n.step)}
+func head(n *numbered.Node) []api.Step {
+	return []api.Step{fresh.Head(n.Step)}
 }
 
 // rebuilt is a new list of steps: put gives what stands in the place of a step, of a StepIf without its branches.
-func rebuilt(l []*node, put func(n *node) []api.Step) []api.Step {
+func rebuilt(l []*numbered.Node, put func(n *numbered.Node) []api.Step) []api.Step {
 	var out []api.Step
 	for _, n := range l {
 		place := put(n)
-		if n.step.Kind == api.StepIf && len(place) > 0 {
-			place[0].Then = rebuilt(n.then, put)
-			place[0].Else = rebuilt(n.otherwise, put)
+		if n.Step.Kind == api.StepIf && len(place) > 0 {
+			place[0].Then = rebuilt(n.Then, put)
+			place[0].Else = rebuilt(n.Else, put)
 		}
 		out = append(out, place...)
 	}
@@ -28,11 +29,11 @@ func rebuilt(l []*node, put func(n *node) []api.Step) []api.Step {
 }
 
 // rebuiltPlay has those procedures for which keep holds.
-func (t *tree) rebuiltPlay(keep func(proc int) bool, put func(n *node) []api.Step) api.Play {
-	p := api.Play{Main: rebuilt(t.main, put)}
-	for i, q := range t.procs {
+func (t *tree) rebuiltPlay(keep func(proc int) bool, put func(n *numbered.Node) []api.Step) api.Play {
+	p := api.Play{Main: rebuilt(t.Main, put)}
+	for i, q := range t.Procs {
 		if keep(i) {
-			p.Procs = append(p.Procs, api.Proc{Key: q.Key, Params: slices.Clone(q.Params), Body: rebuilt(t.bodies[i], put)})
+			p.Procs = append(p.Procs, api.Proc{Key: q.Key, Params: slices.Clone(q.Params), Body: rebuilt(t.Bodies[i], put)})
 		}
 	}
 	return p
@@ -40,8 +41,8 @@ func (t *tree) rebuiltPlay(keep func(proc int) bool, put func(n *node) []api.Ste
 
 func (t *tree) trimmed() api.Play {
 	steps, procs := newWays(t).reached()
-	return t.rebuiltPlay(func(proc int) bool { return procs[proc] }, func(n *node) []api.Step {
-		if !steps[n.number] {
+	return t.rebuiltPlay(func(proc int) bool { return procs[proc] }, func(n *numbered.Node) []api.Step {
+		if !steps[n.Number] {
 			return nil
 		}
 		return head(n)

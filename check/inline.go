@@ -3,6 +3,7 @@ package check
 import (
 	"promptbook/api"
 	"promptbook/fresh"
+	"promptbook/numbered"
 	"promptbook/script"
 )
 
@@ -22,14 +23,14 @@ func newInliner(t *tree) *inliner {
 }
 
 // vanishes says whether a step is a call that is replaced.
-func (x *inliner) vanishes(n *node) bool {
-	return n.callee != noProc && !x.rings.inRing(n.callee)
+func (x *inliner) vanishes(n *numbered.Node) bool {
+	return n.Callee != numbered.NoProc && !x.rings.inRing(n.Callee)
 }
 
 // total is how many steps the result would have, tooMany if there are more than MaxSteps.
 func (x *inliner) total() int {
-	sum := x.size(x.main)
-	for i, body := range x.bodies {
+	sum := x.size(x.Main)
+	for i, body := range x.Bodies {
 		if x.rings.inRing(i) {
 			sum += x.size(body)
 		}
@@ -37,13 +38,13 @@ func (x *inliner) total() int {
 	return min(sum, tooMany)
 }
 
-func (x *inliner) size(l []*node) int {
+func (x *inliner) size(l []*numbered.Node) int {
 	sum := 0
 	for _, n := range l {
 		if x.vanishes(n) {
-			sum += x.bodySize(n.callee)
+			sum += x.bodySize(n.Callee)
 		} else {
-			sum += 1 + x.size(n.then) + x.size(n.otherwise)
+			sum += 1 + x.size(n.Then) + x.size(n.Else)
 		}
 		sum = min(sum, tooMany)
 	}
@@ -54,7 +55,7 @@ func (x *inliner) size(l []*node) int {
 func (x *inliner) bodySize(proc int) int {
 	size, ok := x.sizes[proc]
 	if !ok {
-		size = x.size(x.bodies[proc])
+		size = x.size(x.Bodies[proc])
 		x.sizes[proc] = size
 	}
 	return size
@@ -64,15 +65,15 @@ func (x *inliner) play() api.Play {
 	return x.rebuiltPlay(x.rings.inRing, x.put)
 }
 
-func (x *inliner) put(n *node) []api.Step {
+func (x *inliner) put(n *numbered.Node) []api.Step {
 	if !x.vanishes(n) {
 		return head(n)
 	}
 	names := map[string]string{}
-	for i, param := range x.procs[n.callee].Params {
-		names[param] = n.step.Args[i]
+	for i, param := range x.Procs[n.Callee].Params {
+		names[param] = n.Step.Args[i]
 	}
-	l := fresh.Steps(x.body(n.callee))
+	l := fresh.Steps(x.body(n.Callee))
 	rename(l, names)
 	return l
 }
@@ -80,7 +81,7 @@ func (x *inliner) put(n *node) []api.Step {
 func (x *inliner) body(proc int) []api.Step {
 	l, ok := x.made[proc]
 	if !ok {
-		l = rebuilt(x.bodies[proc], x.put)
+		l = rebuilt(x.Bodies[proc], x.put)
 		x.made[proc] = l
 	}
 	return l

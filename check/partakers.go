@@ -1,6 +1,10 @@
 package check
 
-import "slices"
+import (
+	"slices"
+
+	"promptbook/numbered"
+)
 
 // partakers are, for each procedure, the indices of those of its Params that partake.
 func (t *tree) partakers() [][]int {
@@ -19,18 +23,18 @@ func (t *tree) partakers() [][]int {
 
 // partaking tells for each procedure which of its Params partake.
 func (t *tree) partaking() [][]bool {
-	out := make([][]bool, len(t.procs))
-	for i, q := range t.procs {
+	out := make([][]bool, len(t.Procs))
+	for i, q := range t.Procs {
 		out[i] = make([]bool, len(q.Params))
 	}
 	t.settle(func(proc int) bool {
 		changed := false
-		for _, n := range t.within[proc] {
-			for i, role := range rolesOf(n.step) {
-				if n.callee != noProc && !out[n.callee][i] {
+		for _, n := range t.Within[proc] {
+			for i, role := range rolesOf(n.Step) {
+				if n.Callee != numbered.NoProc && !out[n.Callee][i] {
 					continue
 				}
-				k := slices.Index(t.procs[proc].Params, role)
+				k := slices.Index(t.Procs[proc].Params, role)
 				changed = changed || !out[proc][k]
 				out[proc][k] = true
 			}

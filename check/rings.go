@@ -1,15 +1,17 @@
 package check
 
+import "promptbook/numbered"
+
 // leads tells which procedures lead to which ones.
 type leads [][]bool
 
 func (t *tree) leads() leads {
-	to := make(leads, len(t.procs))
+	to := make(leads, len(t.Procs))
 	for i := range to {
-		to[i] = make([]bool, len(t.procs))
-		for _, n := range t.within[i] {
-			if n.callee != noProc {
-				to[i][n.callee] = true
+		to[i] = make([]bool, len(t.Procs))
+		for _, n := range t.Within[i] {
+			if n.Callee != numbered.NoProc {
+				to[i][n.Callee] = true
 			}
 		}
 	}
@@ -36,13 +38,13 @@ func (to leads) share(a, b int) bool {
 
 func (t *tree) rings() [][]string {
 	to := t.leads()
-	done := make([]bool, len(t.procs))
+	done := make([]bool, len(t.Procs))
 	var out [][]string
-	for i := range t.procs {
+	for i := range t.Procs {
 		if done[i] || !to.inRing(i) {
 			continue
 		}
-		out = append(out, t.keys(func(proc int) bool {
+		out = append(out, t.Keys(func(proc int) bool {
 			if !to.share(i, proc) {
 				return false
 			}
@@ -56,21 +58,21 @@ func (t *tree) rings() [][]string {
 // deep are the numbers of the calls within rings that are not last.
 func (t *tree) deep() []int {
 	to := t.leads()
-	last := make([]bool, len(t.nodes))
-	for _, body := range t.bodies {
+	last := make([]bool, len(t.Nodes))
+	for _, body := range t.Bodies {
 		markLast(body, last)
 	}
-	return t.numbers(func(n *node) bool {
-		return n.proc != noProc && n.callee != noProc && to.share(n.proc, n.callee) && !last[n.number]
+	return t.Numbers(func(n *numbered.Node) bool {
+		return n.Proc != numbered.NoProc && n.Callee != numbered.NoProc && to.share(n.Proc, n.Callee) && !last[n.Number]
 	})
 }
 
-func markLast(l []*node, last []bool) {
+func markLast(l []*numbered.Node, last []bool) {
 	if len(l) == 0 {
 		return
 	}
 	n := l[len(l)-1]
-	last[n.number] = true
-	markLast(n.then, last)
-	markLast(n.otherwise, last)
+	last[n.Number] = true
+	markLast(n.Then, last)
+	markLast(n.Else, last)
 }

@@ -5,6 +5,7 @@ import (
 	"slices"
 
 	"promptbook/api"
+	"promptbook/numbered"
 )
 
 // ways knows what the ways through a play have in common.
@@ -21,15 +22,15 @@ type effect struct {
 }
 
 func newWays(t *tree) *ways {
-	w := &ways{tree: t, variables: map[string]int{}, through: make([]effect, len(t.procs))}
-	for _, n := range t.nodes {
-		if _, ok := w.variables[n.step.Var]; !ok && n.step.Var != "" {
-			w.variables[n.step.Var] = len(w.variables)
+	w := &ways{tree: t, variables: map[string]int{}, through: make([]effect, len(t.Procs))}
+	for _, n := range t.Nodes {
+		if _, ok := w.variables[n.Step.Var]; !ok && n.Step.Var != "" {
+			w.variables[n.Step.Var] = len(w.variables)
 		}
 	}
 	// As long as no way through a procedure is found, there is none: so there is one at last only if it has an end.
 	t.settle(func(proc int) bool {
-		before, now := w.through[proc], w.along(t.bodies[proc])
+		before, now := w.through[proc], w.along(t.Bodies[proc])
 		w.through[proc] = now
 		return now.ends != before.ends || !now.sets.equal(before.sets)
 	})
@@ -37,7 +38,7 @@ func newWays(t *tree) *ways {
 }
 
 // along is the effect of a list: there is a way through it if there is one through each of its steps.
-func (w *ways) along(l []*node) effect {
+func (w *ways) along(l []*numbered.Node) effect {
 	sets := known{}
 	for _, n := range l {
 		e := w.step(n)
@@ -49,14 +50,14 @@ func (w *ways) along(l []*node) effect {
 	return effect{ends: true, sets: sets}
 }
 
-func (w *ways) step(n *node) effect {
-	switch n.step.Kind {
+func (w *ways) step(n *numbered.Node) effect {
+	switch n.Step.Kind {
 	case api.StepSend:
-		return w.setting(n.step.To, n.step.Var)
+		return w.setting(n.Step.To, n.Step.Var)
 	case api.StepSet:
-		return w.setting(n.step.Role, n.step.Var)
+		return w.setting(n.Step.Role, n.Step.Var)
 	case api.StepIf:
-		return either(w.along(n.then), w.along(n.otherwise))
+		return either(w.along(n.Then), w.along(n.Else))
 	case api.StepCall:
 		return w.calling(n)
 	}
@@ -79,28 +80,28 @@ func either(a, b effect) effect {
 }
 
 // calling is the effect of a procedure's body, as far as it is known, with the Args in the place of the Params.
-func (w *ways) calling(n *node) effect {
-	e := w.through[n.callee]
+func (w *ways) calling(n *numbered.Node) effect {
+	e := w.through[n.Callee]
 	if !e.ends {
 		return effect{}
 	}
 	sets := known{}
-	for i, param := range w.procs[n.callee].Params {
-		sets.add(n.step.Args[i], e.sets[param])
+	for i, param := range w.Procs[n.Callee].Params {
+		sets.add(n.Step.Args[i], e.sets[param])
 	}
 	return effect{ends: true, sets: sets}
 }
 
 // visitor sees a step, and what is known before it.
-type visitor func(n *node, before *scope)
+type visitor func(n *numbered.Node, before *scope)
 
 // walk visits the steps of a list to which one can come from its beginning, without those of the procedures that they call.
-func (w *ways) walk(l []*node, outer *scope, visit visitor) {
+func (w *ways) walk(l []*numbered.Node, outer *scope, visit visitor) {
 	here := &scope{own: known{}, outer: outer}
 	for _, n := range l {
 		visit(n, here)
-		w.walk(n.then, here, visit)
-		w.walk(n.otherwise, here, visit)
+		w.walk(n.Then, here, visit)
+		w.walk(n.Else, here, visit)
 		e := w.step(n)
 		if !e.ends {
 			return
@@ -111,55 +112,55 @@ func (w *ways) walk(l []*node, outer *scope, visit visitor) {
 
 // entries are what is known at the beginning of each procedure, however it is reached; nil if it is not.
 func (w *ways) entries() []known {
-	entries := make([]known, len(w.procs))
+	entries := make([]known, len(w.Procs))
 	list := newWorklist()
-	enter := func(n *node, before *scope) {
-		if n.callee == noProc {
+	enter := func(n *numbered.Node, before *scope) {
+		if n.Callee == numbered.NoProc {
 			return
 		}
-		now, was := w.passed(n, before), entries[n.callee]
+		now, was := w.passed(n, before), entries[n.Callee]
 		if was != nil {
 			now = was.common(now)
 		}
 		if was == nil || !now.equal(was) {
-			entries[n.callee] = now
-			list.add(n.callee)
+			entries[n.Callee] = now
+			list.add(n.Callee)
 		}
 	}
-	w.walk(w.main, nil, enter)
+	w.walk(w.Main, nil, enter)
 	list.run(func(proc int) {
-		w.walk(w.bodies[proc], &scope{own: entries[proc]}, enter)
+		w.walk(w.Bodies[proc], &scope{own: entries[proc]}, enter)
 	})
 	return entries
 }
 
 // passed is what is known of the Params of a procedure where it is called.
-func (w *ways) passed(n *node, before *scope) known {
+func (w *ways) passed(n *numbered.Node, before *scope) known {
 	k := known{}
-	for i, param := range w.procs[n.callee].Params {
-		k.add(param, before.of(n.step.Args[i]))
+	for i, param := range w.Procs[n.Callee].Params {
+		k.add(param, before.of(n.Step.Args[i]))
 	}
 	return k
 }
 
 // everywhere visits all steps that are reached, in the order of their numbers.
 func (w *ways) everywhere(visit visitor) {
-	w.walk(w.main, nil, visit)
+	w.walk(w.Main, nil, visit)
 	for i, k := range w.entries() {
 		if k != nil {
-			w.walk(w.bodies[i], &scope{own: k}, visit)
+			w.walk(w.Bodies[i], &scope{own: k}, visit)
 		}
 	}
 }
 
 // reached tells, by number, which steps are reached, and by index, which procedures such steps call.
 func (w *ways) reached() (steps, procs []bool) {
-	steps = make([]bool, len(w.nodes))
-	procs = make([]bool, len(w.procs))
-	w.everywhere(func(n *node, _ *scope) {
-		steps[n.number] = true
-		if n.callee != noProc {
-			procs[n.callee] = true
+	steps = make([]bool, len(w.Nodes))
+	procs = make([]bool, len(w.Procs))
+	w.everywhere(func(n *numbered.Node, _ *scope) {
+		steps[n.Number] = true
+		if n.Callee != numbered.NoProc {
+			procs[n.Callee] = true
 		}
 	})
 	return steps, procs
@@ -168,11 +169,11 @@ func (w *ways) reached() (steps, procs []bool) {
 // early are the variables that are read where they are not known to be set.
 func (w *ways) early() []api.Early {
 	var out []api.Early
-	w.everywhere(func(n *node, before *scope) {
-		for _, name := range reads(n.step.Expr) {
+	w.everywhere(func(n *numbered.Node, before *scope) {
+		for _, name := range reads(n.Step.Expr) {
 			i, isSet := w.variables[name]
-			if !isSet || !before.has(n.step.Role, i) {
-				out = append(out, api.Early{Step: n.number, Role: n.step.Role, Name: name})
+			if !isSet || !before.has(n.Step.Role, i) {
+				out = append(out, api.Early{Step: n.Number, Role: n.Step.Role, Name: name})
 			}
 		}
 	})

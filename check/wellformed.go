@@ -4,6 +4,7 @@ import (
 	"slices"
 
 	"promptbook/api"
+	"promptbook/numbered"
 )
 
 // rolesOf are the roles of a step; the list can be that of the step.
@@ -18,13 +19,13 @@ func rolesOf(s api.Step) []string {
 }
 
 // checkNode checks a step without those within it.
-func (t *tree) checkNode(n *node) api.Errno {
+func (t *tree) checkNode(n *numbered.Node) api.Errno {
 	switch {
-	case n.proc != noProc && !areAmong(rolesOf(n.step), t.procs[n.proc].Params):
+	case n.Proc != numbered.NoProc && !areAmong(rolesOf(n.Step), t.Procs[n.Proc].Params):
 		return api.ErrName
-	case n.step.Kind == api.StepCall:
+	case n.Step.Kind == api.StepCall:
 		return t.checkCall(n)
-	case n.step.Role == n.step.To:
+	case n.Step.Role == n.Step.To:
 		return api.ErrTwice
 	}
 	return api.OK
@@ -39,12 +40,12 @@ func areAmong(roles, params []string) bool {
 	return true
 }
 
-func (t *tree) checkCall(n *node) api.Errno {
-	args := n.step.Args
-	if n.callee == noProc {
+func (t *tree) checkCall(n *numbered.Node) api.Errno {
+	args := n.Step.Args
+	if n.Callee == numbered.NoProc {
 		return api.ErrNone
 	}
-	if len(args) != len(t.procs[n.callee].Params) {
+	if len(args) != len(t.Procs[n.Callee].Params) {
 		return api.ErrForm
 	}
 	for i, role := range args {

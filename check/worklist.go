@@ -1,5 +1,7 @@
 package check
 
+import "promptbook/numbered"
+
 // worklist has procedures that are still to be looked at, each one once, the first one that was added first.
 type worklist struct {
 	queue   []int
@@ -29,13 +31,13 @@ func (w *worklist) run(do func(proc int)) {
 
 // settle looks at each procedure, and again at those that call one that has changed, until nothing changes. What look finds out about a procedure follows from what it has found out about those that this one calls.
 func (t *tree) settle(look func(proc int) (changed bool)) {
-	callers := make([][]int, len(t.procs))
+	callers := make([][]int, len(t.Procs))
 	w := newWorklist()
-	for i := range t.procs {
+	for i := range t.Procs {
 		w.add(i)
-		for _, n := range t.within[i] {
-			if n.callee != noProc {
-				callers[n.callee] = append(callers[n.callee], i)
+		for _, n := range t.Within[i] {
+			if n.Callee != numbered.NoProc {
+				callers[n.Callee] = append(callers[n.Callee], i)
 			}
 		}
 	}

@@ -1,6 +1,9 @@
 package value
 
-import "promptbook/api"
+import (
+	"promptbook/api"
+	"promptbook/meaning"
+)
 
 // reach is from the least to the greatest value that something can have.
 type reach struct{ low, high int }
@@ -46,9 +49,9 @@ func rangeOf(e api.Expr, of func(name string) reach) reach {
 func wrapped(low, high int) reach {
 	switch {
 	case low > api.MaxValue:
-		return reach{low - modulus, high - modulus}
+		return reach{low - meaning.Modulus, high - meaning.Modulus}
 	case high < 0:
-		return reach{low + modulus, high + modulus}
+		return reach{low + meaning.Modulus, high + meaning.Modulus}
 	case low < 0 || high > api.MaxValue:
 		return anything()
 	}
@@ -65,7 +68,7 @@ func product(x, y reach) reach {
 // known is the range of a truth of which one knows whether it always or never holds.
 func known(always, never bool) reach {
 	if always || never {
-		return just(truth(always))
+		return just(meaning.Truth(always))
 	}
 	return reach{0, 1}
 }

@@ -4,6 +4,7 @@ import (
 	"slices"
 
 	"promptbook/api"
+	"promptbook/meaning"
 )
 
 // rule gives what it makes of an expression whose Args are simple, and whether it applies at all.
@@ -49,7 +50,7 @@ func allNumbers(e api.Expr) (api.Expr, bool) {
 	if len(e.Args) == 0 || slices.ContainsFunc(e.Args, other) {
 		return api.Expr{}, false
 	}
-	return number(compile(e)(slotValues(nil))), true
+	return number(meaning.Of(e)(slotValues(nil))), true
 }
 
 // neutral leaves out what does not count in a sum, a difference or a product, and what does not count beside 0.
@@ -76,7 +77,7 @@ func neutral(e api.Expr) (api.Expr, bool) {
 func sameArgs(e api.Expr) (api.Expr, bool) {
 	switch e.Op {
 	case api.OpSub, api.OpLess, api.OpSame:
-		return number(truth(e.Op == api.OpSame)), equal(e.Args[0], e.Args[1])
+		return number(meaning.Truth(e.Op == api.OpSame)), equal(e.Args[0], e.Args[1])
 	}
 	return api.Expr{}, false
 }
