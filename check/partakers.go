@@ -30,7 +30,7 @@ func (t *tree) partaking() [][]bool {
 	t.settle(func(proc int) bool {
 		changed := false
 		for _, n := range t.Within[proc] {
-			for i, role := range rolesOf(n.Step) {
+			for i, role := range n.Roles() {
 				if n.Callee != numbered.NoProc && !out[n.Callee][i] {
 					continue
 				}

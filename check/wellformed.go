@@ -7,21 +7,10 @@ import (
 	"promptbook/numbered"
 )
 
-// rolesOf are the roles of a step; the list can be that of the step.
-func rolesOf(s api.Step) []string {
-	switch {
-	case s.Kind == api.StepCall:
-		return s.Args
-	case s.To == "":
-		return []string{s.Role}
-	}
-	return []string{s.Role, s.To}
-}
-
 // checkNode checks a step without those within it.
 func (t *tree) checkNode(n *numbered.Node) api.Errno {
 	switch {
-	case n.Proc != numbered.NoProc && !areAmong(rolesOf(n.Step), t.Procs[n.Proc].Params):
+	case n.Proc != numbered.NoProc && !areAmong(n.Roles(), t.Procs[n.Proc].Params):
 		return api.ErrName
 	case n.Step.Kind == api.StepCall:
 		return t.checkCall(n)

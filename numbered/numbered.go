@@ -57,6 +57,18 @@ func (p *Play) list(l []api.Step, proc int, index map[string]int) []*Node {
 	return out
 }
 
+// Roles are those of a step, without those within it; the list can be that of the step.
+func (n *Node) Roles() []string {
+	switch s := n.Step; {
+	case s.Kind == api.StepCall:
+		return s.Args
+	case s.To == "":
+		return []string{s.Role}
+	default:
+		return []string{s.Role, s.To}
+	}
+}
+
 // Keys are those of the procedures for which is holds, in order.
 func (p *Play) Keys(is func(proc int) bool) []string {
 	var out []string

@@ -48,3 +48,17 @@ func TestKeysAndNumbers(t *testing.T) { // P2.1
 		t.Errorf("numbers: got %s", got)
 	}
 }
+
+func TestRoles(t *testing.T) { // P2.1
+	p, _, err := script.Read("main { a.1 -> b.v; a -> b [l]; a.v := 1; if a.v { b.v := 1; } else { } p(c, b); }")
+	if err != api.OK {
+		t.Fatal(err)
+	}
+	got := ""
+	for _, n := range numbered.New(p).Nodes {
+		got += fmt.Sprint(n.Roles())
+	}
+	if got != "[a b][a b][a][a][b][c b]" {
+		t.Errorf("got %s", got)
+	}
+}

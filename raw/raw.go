@@ -1,7 +1,11 @@
 // Package raw has what the raw forms of many values need: what a name is, and how many Args an operator has.
 package raw
 
-import "promptbook/api"
+import (
+	"slices"
+
+	"promptbook/api"
+)
 
 // IsName says whether s is a name of a role, a variable, a label or a procedure.
 func IsName(s string) bool {
@@ -46,4 +50,9 @@ func Operands(op int) int {
 		return 3
 	}
 	return 2
+}
+
+// Equal compares expressions.
+func Equal(a, b api.Expr) bool {
+	return a.Op == b.Op && a.N == b.N && a.Name == b.Name && slices.EqualFunc(a.Args, b.Args, Equal)
 }

@@ -53,3 +53,20 @@ func TestOperands(t *testing.T) { // P1.1
 		}
 	}
 }
+
+func TestEqual(t *testing.T) { // P5.2
+	number := func(n int) api.Expr { return api.Expr{Op: api.OpNumber, N: n} }
+	two := func(op int, x, y api.Expr) api.Expr { return api.Expr{Op: op, Args: []api.Expr{x, y}} }
+	v, w := api.Expr{Op: api.OpVar, Name: "v"}, api.Expr{Op: api.OpVar, Name: "w"}
+	all := []api.Expr{{}, number(0), number(1), v, w, two(api.OpAdd, v, w), two(api.OpSub, v, w), two(api.OpAdd, w, v), two(api.OpAdd, v, two(api.OpMul, v, w)), two(api.OpAdd, v, two(api.OpMul, v, v)), {Op: api.OpNot, Args: []api.Expr{v}}}
+	for i, a := range all {
+		for k, b := range all {
+			if raw.Equal(a, b) != (i == k) {
+				t.Errorf("%v and %v: not %v", a, b, i == k)
+			}
+		}
+	}
+	if !raw.Equal(api.Expr{Op: api.OpVar, Name: "v", Args: []api.Expr{}}, v) {
+		t.Error("an empty list is a nil one")
+	}
+}

@@ -5,6 +5,7 @@ import (
 
 	"promptbook/api"
 	"promptbook/meaning"
+	"promptbook/raw"
 )
 
 // rule gives what it makes of an expression whose Args are simple, and whether it applies at all.
@@ -40,10 +41,6 @@ func isNumber(e api.Expr, n int) bool {
 	return e.Op == api.OpNumber && e.N == n
 }
 
-func equal(a, b api.Expr) bool {
-	return a.Op == b.Op && a.N == b.N && a.Name == b.Name && slices.EqualFunc(a.Args, b.Args, equal)
-}
-
 // allNumbers evaluates what has no variables.
 func allNumbers(e api.Expr) (api.Expr, bool) {
 	other := func(a api.Expr) bool { return a.Op != api.OpNumber }
@@ -77,7 +74,7 @@ func neutral(e api.Expr) (api.Expr, bool) {
 func sameArgs(e api.Expr) (api.Expr, bool) {
 	switch e.Op {
 	case api.OpSub, api.OpLess, api.OpSame:
-		return number(meaning.Truth(e.Op == api.OpSame)), equal(e.Args[0], e.Args[1])
+		return number(meaning.Truth(e.Op == api.OpSame)), raw.Equal(e.Args[0], e.Args[1])
 	}
 	return api.Expr{}, false
 }
@@ -98,7 +95,7 @@ func decided(e api.Expr) (api.Expr, bool) {
 	case isNumber(e.Args[0], 0):
 		return e.Args[2], true
 	}
-	return e.Args[1], e.Args[0].Op == api.OpNumber || equal(e.Args[1], e.Args[2])
+	return e.Args[1], e.Args[0].Op == api.OpNumber || raw.Equal(e.Args[1], e.Args[2])
 }
 
 // negation writes comparisons with 0 as OpNot, and three OpNots as one.
