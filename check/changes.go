@@ -50,53 +50,23 @@ func (t *tree) trimmed() api.Play {
 }
 
 // rename replaces roles of steps, in their own memory, all at once.
-func rename(l []api.Step, names map[string]string) {
-	swap := func(role *string) {
-		if name, ok := names[*role]; ok {
-			*role = name
-		}
-	}
+func rename(l []api.Step, swap func(role *string)) {
 	for i := range l {
 		swap(&l[i].Role)
 		swap(&l[i].To)
 		for k := range l[i].Args {
 			swap(&l[i].Args[k])
 		}
-		rename(l[i].Then, names)
-		rename(l[i].Else, names)
+		rename(l[i].Then, swap)
+		rename(l[i].Else, swap)
 	}
-}
-
-// checkPairs checks what takes the place of which roles.
-func checkPairs(pairs []api.Pair, roles []string) api.Errno {
-	if len(pairs) > api.MaxRoles {
-		return api.ErrLarge
-	}
-	for i, a := range pairs {
-		if !slices.Contains(roles, a.Name) || !raw.IsName(a.Value) {
-			return api.ErrName
-		}
-		if slices.ContainsFunc(pairs[:i], func(b api.Pair) bool { return b.Name == a.Name || b.Value == a.Value }) {
-			return api.ErrTwice
-		}
-	}
-	for _, a := range pairs {
-		if slices.Contains(roles, a.Value) && !slices.ContainsFunc(pairs, func(b api.Pair) bool { return b.Name == a.Value }) {
-			return api.ErrConflict
-		}
-	}
-	return api.OK
 }
 
 func (t *tree) renamed(pairs []api.Pair, roles []string) (api.Play, api.Errno) {
-	if err := checkPairs(pairs, roles); err != api.OK {
+	if err := raw.CheckPairs(pairs, roles); err != api.OK {
 		return api.Play{}, err
 	}
-	names := map[string]string{}
-	for _, a := range pairs {
-		names[a.Name] = a.Value
-	}
 	p := t.rebuiltPlay(func(int) bool { return true }, head)
-	rename(p.Main, names)
+	rename(p.Main, raw.Swap(pairs))
 	return p, api.OK
 }

@@ -4,6 +4,7 @@ import (
 	"promptbook/api"
 	"promptbook/fresh"
 	"promptbook/numbered"
+	"promptbook/raw"
 	"promptbook/script"
 )
 
@@ -69,12 +70,12 @@ func (x *inliner) put(n *numbered.Node) []api.Step {
 	if !x.vanishes(n) {
 		return head(n)
 	}
-	names := map[string]string{}
+	var pairs []api.Pair
 	for i, param := range x.Procs[n.Callee].Params {
-		names[param] = n.Step.Args[i]
+		pairs = append(pairs, api.Pair{Name: param, Value: n.Step.Args[i]})
 	}
 	l := fresh.Steps(x.body(n.Callee))
-	rename(l, names)
+	rename(l, raw.Swap(pairs))
 	return l
 }
 

@@ -6,6 +6,7 @@ import (
 
 	"promptbook/api"
 	"promptbook/numbered"
+	"promptbook/worklist"
 )
 
 // ways knows what the ways through a play have in common.
@@ -113,7 +114,7 @@ func (w *ways) walk(l []*numbered.Node, outer *scope, visit visitor) {
 // entries are what is known at the beginning of each procedure, however it is reached; nil if it is not.
 func (w *ways) entries() []known {
 	entries := make([]known, len(w.Procs))
-	list := newWorklist()
+	list := worklist.New[int]()
 	enter := func(n *numbered.Node, before *scope) {
 		if n.Callee == numbered.NoProc {
 			return
@@ -124,11 +125,11 @@ func (w *ways) entries() []known {
 		}
 		if was == nil || !now.equal(was) {
 			entries[n.Callee] = now
-			list.add(n.Callee)
+			list.Add(n.Callee)
 		}
 	}
 	w.walk(w.Main, nil, enter)
-	list.run(func(proc int) {
+	list.Run(func(proc int) {
 		w.walk(w.Bodies[proc], &scope{own: entries[proc]}, enter)
 	})
 	return entries

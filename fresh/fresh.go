@@ -1,4 +1,4 @@
-// Package fresh copies expressions and steps into new memory.
+// Package fresh copies expressions, steps and acts into new memory.
 package fresh
 
 import (

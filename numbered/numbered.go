@@ -1,4 +1,4 @@
-// Package numbered has plays with the numbers of their steps.
+// Package numbered has plays with the numbers of their steps, and parts with those of their acts.
 package numbered
 
 import "promptbook/api"

@@ -67,7 +67,7 @@ func merge(a, b []*beat) ([]*beat, bool) {
 }
 
 func mergeBeats(a, b *beat) (*beat, bool) {
-	if !equal(a.act, b.act) {
+	if !raw.EqualHeads(a.act, b.act) {
 		return nil, false
 	}
 	switch a.act.Kind {
@@ -89,12 +89,6 @@ func mergeChoices(a, b *beat) (*beat, bool) {
 	}
 	otherwise, ok = merge(otherwise, otherElse)
 	return &beat{act: a.act, then: then, otherwise: otherwise}, ok
-}
-
-// equal compares acts without Then, Else and Offers.
-func equal(a, b api.Act) bool {
-	return a.Kind == b.Kind && a.With == b.With && a.Var == b.Var && a.Label == b.Label && a.Proc == b.Proc && a.Index == b.Index &&
-		raw.Equal(a.Expr, b.Expr) && slices.Equal(a.Args, b.Args)
 }
 
 func mergeOffers(a, b []offer) ([]offer, bool) {

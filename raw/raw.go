@@ -56,3 +56,9 @@ func Operands(op int) int {
 func Equal(a, b api.Expr) bool {
 	return a.Op == b.Op && a.N == b.N && a.Name == b.Name && slices.EqualFunc(a.Args, b.Args, Equal)
 }
+
+// EqualHeads compares acts without Then, Else and Offers.
+func EqualHeads(a, b api.Act) bool {
+	return a.Kind == b.Kind && a.With == b.With && a.Var == b.Var && a.Label == b.Label && a.Proc == b.Proc && a.Index == b.Index &&
+		Equal(a.Expr, b.Expr) && slices.Equal(a.Args, b.Args)
+}

@@ -70,3 +70,22 @@ func TestEqual(t *testing.T) { // P5.2
 		t.Error("an empty list is a nil one")
 	}
 }
+
+func TestEqualHeads(t *testing.T) { // P5.2, P6.5
+	full := api.Act{Kind: api.ActCall, With: "w", Var: "v", Label: "l", Expr: api.Expr{N: 1}, Proc: "p", Index: 1, Args: []string{"a", "b"}}
+	all := []api.Act{full, full, full, full, full, full, full, full, full, full}
+	all[1].Kind, all[2].With, all[3].Var, all[4].Label, all[5].Expr.N, all[6].Proc, all[7].Index = 0, "", "", "", 0, "", 0
+	all[8].Args, all[9].Args = []string{"a"}, []string{"b", "a"}
+	for i, a := range all {
+		for k, b := range all {
+			if raw.EqualHeads(a, b) != (i == k) {
+				t.Errorf("%v and %v: not %v", a, b, i == k)
+			}
+		}
+	}
+	within := full
+	within.Then, within.Else, within.Offers = all[:1], all[:2], make([]api.Offer, 1)
+	if !raw.EqualHeads(within, full) || !raw.EqualHeads(api.Act{Args: []string{}}, api.Act{}) {
+		t.Error("what is within belongs to no head, and an empty list is a nil one")
+	}
+}

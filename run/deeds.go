@@ -1,26 +1,15 @@
 package run
 
 import (
-	"slices"
-
 	"promptbook/api"
+	"promptbook/cast"
 	"promptbook/meaning"
 	"promptbook/numbered"
 )
 
-// cast tells which roles stand for the Params of a procedure. It is empty in Main, where all roles are themselves.
-type cast struct{ params, roles []string }
-
-func (c cast) role(name string) string {
-	if i := slices.Index(c.params, name); i >= 0 {
-		return c.roles[i]
-	}
-	return name
-}
-
 // variable is what a step calls so.
-func (c cast) variable(v api.Var) api.Var {
-	return api.Var{Role: c.role(v.Role), Name: v.Name}
+func variable(c cast.Cast, v api.Var) api.Var {
+	return api.Var{Role: c.Role(v.Role), Name: v.Name}
 }
 
 // noChoice stands where there is no choice.
@@ -29,7 +18,7 @@ const noChoice = -1
 // deed is something that has been done: a step, or all of a branch of a choice.
 type deed struct {
 	node   *numbered.Node // the step, or the choice
-	cast   cast
+	cast   cast.Cast
 	value  int // of the step's Expr
 	choice int // which deed was the choice whose branch has been done; noChoice for a step
 }
@@ -48,7 +37,7 @@ func (d deed) branch() []*numbered.Node {
 
 // target is the variable that a step sets; its Name is empty if it sets none.
 func (d deed) target() api.Var {
-	return d.cast.variable(setBy(d.node.Step))
+	return variable(d.cast, setBy(d.node.Step))
 }
 
 // setBy is the variable that a step sets as the play calls it; its Name is empty if it sets none.
@@ -83,7 +72,7 @@ func (m *machine) events() []api.Event {
 // events are those of a step.
 func (d deed) events() []api.Event {
 	s := d.node.Step
-	role, to := d.cast.role(s.Role), d.cast.role(s.To)
+	role, to := d.cast.Role(s.Role), d.cast.Role(s.To)
 	switch s.Kind {
 	case api.StepSend:
 		return []api.Event{

@@ -4,6 +4,7 @@ import (
 	"slices"
 
 	"promptbook/api"
+	"promptbook/cast"
 	"promptbook/check"
 	"promptbook/meaning"
 	"promptbook/numbered"
@@ -43,7 +44,7 @@ func meaningOf(s api.Step) meaning.Meaning {
 // frame is a list of steps that are done.
 type frame struct {
 	rest   []*numbered.Node
-	cast   cast
+	cast   cast.Cast
 	choice int // which deed was the choice of which it is a branch; noChoice if it is none
 }
 
@@ -89,7 +90,7 @@ func (m *machine) step() {
 	f.rest = f.rest[1:]
 	d := deed{node: n, cast: f.cast, choice: noChoice}
 	if v := m.meanings[n.Number]; v != nil {
-		d.value = v(m.store(d.cast.role(n.Step.Role)))
+		d.value = v(m.store(d.cast.Role(n.Step.Role)))
 	}
 	m.deeds = append(m.deeds, d)
 	switch n.Step.Kind {
@@ -98,7 +99,7 @@ func (m *machine) step() {
 	case api.StepIf:
 		m.frames = append(m.frames, frame{rest: d.branch(), cast: d.cast, choice: len(m.deeds) - 1})
 	case api.StepCall:
-		m.frames = append(m.frames, frame{rest: m.Bodies[n.Callee], cast: m.called(d), choice: noChoice})
+		m.frames = append(m.frames, frame{rest: m.Bodies[n.Callee], cast: d.cast.Called(m.Procs[n.Callee].Params, n.Step.Args), choice: noChoice})
 	}
 	m.leave()
 }
@@ -106,15 +107,6 @@ func (m *machine) step() {
 // store gives the values of the variables of a role.
 func (m *machine) store(role string) meaning.Lookup {
 	return func(name string) int { return m.vars[api.Var{Role: role, Name: name}] }
-}
-
-// called is the cast of the procedure that a deed calls.
-func (m *machine) called(d deed) cast {
-	c := cast{params: m.Procs[d.node.Callee].Params}
-	for _, arg := range d.node.Step.Args {
-		c.roles = append(c.roles, d.cast.role(arg))
-	}
-	return c
 }
 
 // leave takes off the lists that have been done. (A list whose last step is a call stays until the body has been done, because a choice can end with it.)

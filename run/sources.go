@@ -4,6 +4,7 @@ import (
 	"slices"
 
 	"promptbook/api"
+	"promptbook/cast"
 	"promptbook/numbered"
 	"promptbook/value"
 )
@@ -47,22 +48,22 @@ func (x *search) back(i int) {
 func (x *search) want(d deed) {
 	names, _ := value.Vars(d.node.Step.Expr)
 	for _, name := range names {
-		x.wanted[d.cast.variable(api.Var{Role: d.node.Step.Role, Name: name})] = true
+		x.wanted[variable(d.cast, api.Var{Role: d.node.Step.Role, Name: name})] = true
 	}
 }
 
 // canSet says whether a list can set a variable that is wanted.
-func (x *search) canSet(l []*numbered.Node, c cast) bool {
+func (x *search) canSet(l []*numbered.Node, c cast.Cast) bool {
 	return slices.ContainsFunc(l, func(n *numbered.Node) bool {
-		return x.wanted[c.variable(setBy(n.Step))] || x.calledCanSet(n, c) || x.canSet(n.Then, c) || x.canSet(n.Else, c)
+		return x.wanted[variable(c, setBy(n.Step))] || x.calledCanSet(n, c) || x.canSet(n.Then, c) || x.canSet(n.Else, c)
 	})
 }
 
 // calledCanSet says whether the procedure that a step calls can set a variable that is wanted.
-func (x *search) calledCanSet(n *numbered.Node, c cast) bool {
+func (x *search) calledCanSet(n *numbered.Node, c cast.Cast) bool {
 	for i, arg := range n.Step.Args {
 		for name := range x.settable(place{n.Callee, i}) {
-			if x.wanted[c.variable(api.Var{Role: arg, Name: name})] {
+			if x.wanted[variable(c, api.Var{Role: arg, Name: name})] {
 				return true
 			}
 		}
