@@ -145,6 +145,45 @@ func (d *dice) part() api.Part {
 	return p
 }
 
+// ringed is a part with Locals that call one another, and little else.
+func (d *dice) ringed() api.Part {
+	p := api.Part{Role: "b"}
+	n := 2 + d.roll(3)
+	for i := range n {
+		p.Locals = append(p.Locals, api.Local{Key: fmt.Sprint("p", i), Params: []string{"x", "y"}})
+	}
+	for i := range n {
+		p.Locals[i].Body = d.calls(n, "x", "y", 3)
+	}
+	p.Main = d.calls(n, "b", "a", 4)
+	return p
+}
+
+// calls are those of some of n Locals, with a few other acts.
+func (d *dice) calls(n int, own, other string, most int) []api.Act {
+	one := func() api.Act {
+		switch d.roll(6) {
+		case 0, 1, 2:
+			return api.Act{Kind: api.ActCall, Proc: fmt.Sprint("p", d.roll(n)), Args: []string{own, other}}
+		case 3:
+			return api.Act{Kind: api.ActSend, With: other, Expr: name(d.variable())}
+		}
+		return api.Act{Kind: api.ActSet, Var: d.variable(), Expr: d.expr(1)}
+	}
+	var l []api.Act
+	for range d.roll(most + 1) {
+		switch d.roll(6) {
+		case 0:
+			l = append(l, api.Act{Kind: api.ActIf, Expr: name("z"), Then: []api.Act{one()}})
+		case 1:
+			l = append(l, api.Act{Kind: api.ActIf, Expr: name("z"), Else: []api.Act{one(), one()}})
+		default:
+			l = append(l, one())
+		}
+	}
+	return l
+}
+
 // mail is what a part may hear.
 func (d *dice) mail(most int) []api.Heard {
 	var l []api.Heard

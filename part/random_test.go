@@ -116,6 +116,19 @@ func TestSlimRandomParts(t *testing.T) { // P6.5
 	}
 }
 
+func TestRandomRings(t *testing.T) { // P6.3, P6.5
+	d := &dice{10}
+	for range tries {
+		p := d.ringed()
+		got, n, err := part.Slim(p)
+		want, wantLess := slimLiterally(p)
+		same(t, "slim "+words(t, p), []any{got, n, err}, []any{want, wantLess, api.OK})
+		n, ends, err := part.Shortest(p)
+		wantN, wantEnds := shortestLiterally(p)
+		same(t, "shortest of "+words(t, p), []any{n, ends, err}, []any{wantN, wantEnds, api.OK})
+	}
+}
+
 func TestRefinesOfRandomParts(t *testing.T) { // P6.6
 	d := &dice{7}
 	yes := 0

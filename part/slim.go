@@ -17,7 +17,7 @@ type slimmer struct {
 	callers [][]int // of each Local, the Locals among these that call it
 }
 
-// slim is the slim part. The order of what it does differs from that of the chapter where this leads to the same end sooner. Simple expressions stay as they are when they are made simple again, so that once is enough. The Locals that are not called are left out before the ActSets: what is needed elsewhere does not depend on them. And as no ActSet becomes needed because another act goes, those that others need which are left out themselves can go at the same time.
+// slim is the slim part. The order of what it does differs from that of the chapter where this leads to the same end sooner. Simple expressions stay as they are when they are made simple again, so that once is enough. The Locals that are not called are left out at the end: what is needed elsewhere does not depend on them. And as no ActSet becomes needed because another act goes, those that others need which are left out themselves can go at the same time.
 func slim(p api.Part) api.Part {
 	t := numbered.NewPart(simplified(p))
 	s := &slimmer{Part: t, usage: usageOf(t)}
@@ -106,7 +106,7 @@ func labels(a api.Act) []string {
 	return l
 }
 
-// findCalled finds the Locals that are called, and leaves out the acts of all others.
+// findCalled finds the Locals that are called.
 func (s *slimmer) findCalled() {
 	s.called, s.callers = nil, make([][]int, len(s.Locals))
 	seen := make([]bool, len(s.Locals))
@@ -130,11 +130,6 @@ func (s *slimmer) findCalled() {
 		}
 	}
 	visit(s.Main)
-	for i := range s.Bodies {
-		if !seen[i] {
-			s.Bodies[i] = nil
-		}
-	}
 }
 
 // leaveSets leaves out the ActSets whose variables are not needed behind them, by the acts that are still there on the way back through one Body; what is needed through other Bodies was found out before.

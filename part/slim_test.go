@@ -110,6 +110,9 @@ func TestSlimLocals(t *testing.T) { // P6.5: ways through Bodies
 		{"part b { call p 0 (b, a); send a v; } local p 0 (x, y) { if w { set v 1; } else { call p 0 (x, y); } }", "", 0},
 		{"part b { call p 0 (b, a); send a v; } local p 0 (x, y) { if w { set v 1; } else { call p 0 (x, y); set v 2; } }", "", 0},
 		{"part b { call p 0 (b, a); } local p 0 (x, y) { if w { set v 1; } else { call p 0 (x, y); send y v; } }", "", 0},
+		// What is found out about a Local in a ring matters to all that call it, also if they were looked at before.
+		{"part b { call p 0 (b, a); set v 1; call q 0 (b, a); send a v; } local p 0 (x, y) { if w { call q 0 (x, y); } else { } } local q 0 (x, y) { call p 0 (x, y); }", "", 0},
+		{"part b { call r 0 (b, a); set v 1; call p 0 (b, a); } local p 0 (x, y) { if w { call q 0 (x, y); } else { } } local q 0 (x, y) { if w { call r 0 (x, y); } else { } } local r 0 (x, y) { if w { call p 0 (x, y); } else { } send y v; }", "", 0},
 		// The ActCalls of a Local that is not called do not count.
 		{"part b { call q 0 (b, a); } local p 0 (x, y) { call q 0 (x, y); send y v; } local q 0 (x, y) { set v 1; }", "part b { call q 0 (b, a); } local q 0 (x, y) { }", 3},
 		// Those behind something that never ends do.
