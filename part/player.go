@@ -3,7 +3,6 @@ package part
 import (
 	"maps"
 	"slices"
-	"strings"
 
 	"promptbook/api"
 	"promptbook/cast"
@@ -142,13 +141,8 @@ func fits(h api.Heard, a api.Act) bool {
 	if a.Kind == api.ActTake {
 		return h.Label == ""
 	}
-	_, ok := offered(a, h.Label)
+	_, ok := raw.Offered(a, h.Label)
 	return ok
-}
-
-// offered is which one of its Offers, which rise by their labels, has a label. (None has the empty Label of a value.)
-func offered(a api.Act, label string) (int, bool) {
-	return slices.BinarySearchFunc(a.Offers, label, func(o api.Offer, label string) int { return strings.Compare(o.Label, label) })
 }
 
 // role is the role for which a name stands in the acts that are done.
@@ -173,7 +167,7 @@ func (m *player) do(c *numbered.Cue) {
 		e.Name = a.Label
 	case api.ActOffer:
 		e.Name = m.take(e.With).Label
-		chosen, _ := offered(a, e.Name)
+		chosen, _ := raw.Offered(a, e.Name)
 		m.enter(c.Blocks[chosen])
 	case api.ActSet:
 		e.Name = a.Var
