@@ -29,28 +29,35 @@ type form struct {
 	fields []field
 }
 
-var forms = []form{
-	{kind: api.ActSend, word: "send", fields: []field{fieldWith, fieldExpr}},
-	{kind: api.ActTake, word: "take", fields: []field{fieldWith, fieldVar}},
-	{kind: api.ActTell, word: "tell", fields: []field{fieldWith, fieldLabel}},
-	{kind: api.ActOffer, word: "offer", fields: []field{fieldWith, fieldOffers}},
-	{kind: api.ActSet, word: "set", fields: []field{fieldVar, fieldExpr}},
-	{kind: api.ActIf, word: "if", fields: []field{fieldExpr, fieldBranches}},
-	{kind: api.ActCall, word: "call", fields: []field{fieldProc, fieldIndex, fieldArgs}},
-}
-
-// formWhere is the form for which is holds, if there is one.
-func formWhere(is func(f form) bool) (form, bool) {
-	for _, f := range forms {
-		if is(f) {
-			return f, true
-		}
+// formOf is the form of a kind, if there is such a kind.
+func formOf(kind int) (form, bool) {
+	switch kind {
+	case api.ActSend:
+		return form{kind: kind, word: "send", fields: []field{fieldWith, fieldExpr}}, true
+	case api.ActTake:
+		return form{kind: kind, word: "take", fields: []field{fieldWith, fieldVar}}, true
+	case api.ActTell:
+		return form{kind: kind, word: "tell", fields: []field{fieldWith, fieldLabel}}, true
+	case api.ActOffer:
+		return form{kind: kind, word: "offer", fields: []field{fieldWith, fieldOffers}}, true
+	case api.ActSet:
+		return form{kind: kind, word: "set", fields: []field{fieldVar, fieldExpr}}, true
+	case api.ActIf:
+		return form{kind: kind, word: "if", fields: []field{fieldExpr, fieldBranches}}, true
+	case api.ActCall:
+		return form{kind: kind, word: "call", fields: []field{fieldProc, fieldIndex, fieldArgs}}, true
 	}
 	return form{}, false
 }
 
-func formOf(kind int) (form, bool) {
-	return formWhere(func(f form) bool { return f.kind == kind })
+// formNamed is the form with a word, if there is one.
+func formNamed(word string) (form, bool) {
+	for kind := api.ActSend; kind <= api.ActCall; kind++ {
+		if f, _ := formOf(kind); f.word == word {
+			return f, true
+		}
+	}
+	return form{}, false
 }
 
 func (f form) has(x field) bool {

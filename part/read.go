@@ -115,7 +115,7 @@ func (r *reader) block(depth int, end string) ([]api.Act, bool) {
 
 func (r *reader) act(depth int) (a api.Act, ok bool) {
 	word, rest, _ := strings.Cut(r.line(depth), " ")
-	f, ok := formWhere(func(f form) bool { return f.word == word })
+	f, ok := formNamed(word)
 	if !ok {
 		return a, false
 	}

@@ -12,27 +12,33 @@ type form struct {
 	with, name, value bool
 }
 
-var forms = []form{
-	{kind: api.ActSend, word: "send", with: true, value: true},
-	{kind: api.ActTake, word: "take", with: true, name: true, value: true},
-	{kind: api.ActTell, word: "tell", with: true, name: true},
-	{kind: api.ActOffer, word: "offer", with: true, name: true},
-	{kind: api.ActSet, word: "set", name: true, value: true},
-	{kind: api.ActIf, word: "if", value: true},
-}
-
-// formWhere is the form for which is holds, if there is one.
-func formWhere(is func(f form) bool) (form, bool) {
-	for _, f := range forms {
-		if is(f) {
-			return f, true
-		}
+// formOf is the form of events of a kind, if there are any.
+func formOf(kind int) (form, bool) {
+	switch kind {
+	case api.ActSend:
+		return form{kind: kind, word: "send", with: true, value: true}, true
+	case api.ActTake:
+		return form{kind: kind, word: "take", with: true, name: true, value: true}, true
+	case api.ActTell:
+		return form{kind: kind, word: "tell", with: true, name: true}, true
+	case api.ActOffer:
+		return form{kind: kind, word: "offer", with: true, name: true}, true
+	case api.ActSet:
+		return form{kind: kind, word: "set", name: true, value: true}, true
+	case api.ActIf:
+		return form{kind: kind, word: "if", value: true}, true
 	}
 	return form{}, false
 }
 
-func formOf(kind int) (form, bool) {
-	return formWhere(func(f form) bool { return f.kind == kind })
+// formNamed is the form with a word, if there is one.
+func formNamed(word string) (form, bool) {
+	for kind := api.ActSend; kind <= api.ActIf; kind++ {
+		if f, _ := formOf(kind); f.word == word {
+			return f, true
+		}
+	}
+	return form{}, false
 }
 
 // checkEvent checks an event by itself.

@@ -83,7 +83,7 @@ func readEvent(words []string, into *[]api.Event) bool {
 	if len(words) < 2 {
 		return false
 	}
-	f, ok := formWhere(func(f form) bool { return f.word == words[1] })
+	f, ok := formNamed(words[1])
 	e, value := api.Event{Role: words[0], Kind: f.kind}, "0"
 	fields := f.fields(&e, &value)
 	if !ok || len(words) != 2+len(fields) {
