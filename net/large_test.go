@@ -81,6 +81,29 @@ func TestLongQueues(t *testing.T) { // P7.3, Z1
 	same(t, "as many as there is room for", moves, slices.Repeat([]string{"a"}, api.MaxRoom))
 }
 
+// turned are 1,024 acts, some x and the others y, so that their hash is that of the acts with x and y exchanged, if it is a sum of products with powers of any odd number modulo 2 to the 64.
+func turned(x, y string) string {
+	l, other := x, y
+	for range 10 {
+		l, other = l+other, other+l
+	}
+	return l
+}
+
+func TestEqualHashes(t *testing.T) { // P7.3
+	x, y := "if 0 { set v 1; } else { } ", "if 0 { set v 2; } else { } "
+	told, err := net.Explore(read(t, "part a { "+turned(x, y)+"call p 0 (a); } local p 0 (x) { "+turned(y, x)+"call p 0 (x); }"), nil, 0, api.MaxStates)
+	same(t, "rests", []any{told, err}, []any{api.Explored{States: 2049, Moves: 2049}, api.OK})
+	// b takes 1,024 letters when a has sent all, and forgets them; then a sends others.
+	x, y = "send %[1]s 1; ", "send %[1]s 2; "
+	sends := func(x, y, to string) string { return fmt.Sprintf(turned(x, y), to) }
+	p := read(t, "part a { "+sends(x, y, "b")+"tell c l; offer c { l { call p 0 (a, b, c); } } } local p 0 (x, y, z) { "+sends(y, x, "y")+"tell z l; offer z { l { call p 0 (x, y, z); } } } "+
+		"part b { call p 1 (a, b, c); } local p 1 (x, y, z) { offer z { l { } } "+strings.Repeat("take x v; ", 1024)+"set v 0; tell z l; call p 1 (x, y, z); } "+
+		"part c { call p 2 (a, b, c); } local p 2 (x, y, z) { offer x { l { tell y l; } } offer y { l { tell x l; } } call p 2 (x, y, z); }")
+	told, err = net.Explore(p, nil, 0, api.MaxStates)
+	same(t, "queues", []any{told, err}, []any{api.Explored{States: 10279, Moves: 18495, Longest: 1024}, api.OK})
+}
+
 func TestMostMoves(t *testing.T) { // P7.2, Z1
 	p := read(t, "part a { "+strings.Repeat("set v v + 1; ", api.MaxActs-2)+"send b v; } part b { take a v; }")
 	last, events, busy, err := net.Run(p, nil, []int{0}, api.MaxMoves)

@@ -106,7 +106,7 @@ func (v *survey) path(i int) []string {
 	return v.names(moves)
 }
 
-// ends are the stores of all states in which no role is able.
+// ends are the stores of all states in which no role is able: as there is at most one, they need no order.
 func (v *survey) ends() [][]api.Store {
 	if v.still == noState {
 		return nil
